@@ -1,0 +1,1 @@
+"""Arrowfind: nets of arrows that say the same."""

@@ -1,6 +1,7 @@
 """What the tests share: nets to try, and slow answers straight from the document's words."""
 
 import itertools
+import sys
 import unittest
 
 from arrowfind.errors import ArrowError
@@ -81,6 +82,13 @@ def thrown_nets(sizes=(5, 6, 7, 8), each=6):
             yield (tuple(names), by_places(names, arrows))
 
 
+def some_nets():
+    """Each net with up to four names, and some with up to eight."""
+    for size in (1, 2, 3, 4):
+        yield from every_net(size)
+    yield from thrown_nets()
+
+
 def slow_below(net, name):
     names, arrows = net
     found = {name}
@@ -147,3 +155,106 @@ def lists_of(names):
     for length in range(len(names) + 1):
         for some in itertools.combinations(names, length):
             yield list(some)
+
+
+def others_of(net, *names):
+    return [name for name in net[0] if name not in names]
+
+
+def slow_parted(net, one, other, held):
+    return not any(slow_open(net, road, held) for road in slow_roads(net, one, other))
+
+
+def slow_partings(net):
+    """All that a net says: each two names with each list of others that parts them."""
+    told = set()
+    for one, other in itertools.combinations(net[0], 2):
+        roads = slow_roads(net, one, other)
+        for held in lists_of(others_of(net, one, other)):
+            if not any(slow_open(net, road, held) for road in roads):
+                told.add((one, other, tuple(held)))
+    return frozenset(told)
+
+
+def slow_reach(net, one, held):
+    def goes_down(name):
+        came = name == one or (name, True) in found or (name, False) in found
+        return came and name not in held
+
+    def goes_up(name):
+        below = set(slow_below(net, name)) & set(held)
+        return name == one or (name, True) in found and below or (name, False) in found and name not in held
+
+    found = set()
+    for _ in range(2 * len(net[0])):
+        found |= {(head, True) for tail, head in net[1] if goes_down(tail)}
+        found |= {(tail, False) for tail, head in net[1] if goes_up(head)}
+    return [(name, truth) for name in net[0] for truth in (False, True) if (name, truth) in found]
+
+
+def slow_ties(net):
+    return [pair for pair in itertools.combinations(net[0], 2) if slow_tied(net, *pair)]
+
+
+def slow_corners(net):
+    return [
+        (one, middle, other)
+        for one, middle, other in itertools.permutations(net[0], 3)
+        if net[0].index(one) < net[0].index(other) and not slow_tied(net, one, other)
+        and (one, middle) in net[1] and (other, middle) in net[1]
+    ]
+
+
+def slow_elders(net, name):
+    return {tail for tail, head in net[1] if head == name}
+
+
+def slow_turnable(net):
+    return [
+        (tail, head)
+        for tail, head in net[1]
+        if slow_elders(net, head) == slow_elders(net, tail) | {tail}
+    ]
+
+
+def slow_turned(net, arrow):
+    arrows = [pair for pair in net[1] if pair != arrow] + [arrow[::-1]]
+    return (net[0], by_places(net[0], arrows))
+
+
+def all_tied(names):
+    """A net with every tie there can be, each arrow from an earlier of these names to a later."""
+    return (tuple(names), tuple(itertools.combinations(names, 2)))
+
+
+def by_turns(net, turns):
+    """The same ties, each with its arrow from the earlier in turns to the later."""
+    pairs = [tuple(sorted(arrow, key=turns.index)) for arrow in net[1]]
+    return (net[0], by_places(net[0], pairs))
+
+
+def turned_about(net, dice, times):
+    """A net that says the same: some arrow that can be turned is, again and again."""
+    for _ in range(times):
+        can = slow_turnable(net)
+        if can:
+            net = slow_turned(net, can[dice.throw(len(can))])
+    return net
+
+
+def steps_of(function, *arguments):
+    """How many rows of Python an answer takes: the same number on a slow machine and a fast one."""
+    steps = 0
+
+    def count(frame, event, argument):
+        nonlocal steps
+        steps += 1
+        return count
+
+    kept = sys.gettrace()
+    sys.settrace(count)
+    try:
+        function(*arguments)
+    finally:
+        sys.settrace(kept)
+    return steps

@@ -9,18 +9,12 @@ from arrowfind.nets import (
 )
 from tests.helper import (
     NAMES, Case, by_places, comes_round, every_choice, every_net, slow_above, slow_below,
-    slow_tied, thrown_net, thrown_nets,
+    slow_tied, some_nets, thrown_net,
 )
 
 SMALL = "abcdefghijklmnopqrstuvwxyz"
 SIGNS = [chr(number) for number in range(32, 127)] + ["\n", "\t"]
 NINE = [letter for letter in "abcdefghi"]
-
-
-def some_nets():
-    for size in (1, 2, 3, 4):
-        yield from every_net(size)
-    yield from thrown_nets()
 
 
 class WordTest(Case):

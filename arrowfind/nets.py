@@ -72,6 +72,12 @@ def refuse_repeats(asked):
         stood[name] = True
 
 
+# The two names and the held ones together are what is asked.
+def refuse_wrong_asks(names, asked):
+    refuse_strangers(names, asked)
+    refuse_repeats(asked)
+
+
 # Word and repeat are looked at together, for the first wrong name decides which refusal is due.
 def refuse_wrong_names(names):
     if not 1 <= len(names) <= MOST_NAMES:

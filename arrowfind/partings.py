@@ -1,11 +1,11 @@
 """Partings of a net: which names are parted by which, and else a road that is open."""
 
-from arrowfind.nets import elders_of, heirs_of, refuse_repeats, refuse_strangers
+from arrowfind.nets import elders_of, heirs_of, refuse_wrong_asks
 from arrowfind.roads import has_held_below, meetings_of
 
 
 def are_parted(net, one, other, held):
-    refuse_wrong_asks(net, [one, other] + list(held))
+    refuse_wrong_asks(net[0], [one, other] + list(held))
     return not spots_of(other, spots_before(net, one, held))
 
 
@@ -15,7 +15,7 @@ def are_parted(net, one, other, held):
 # the way first came up to it, or the way turned upwards since, at the name or below it, and so
 # a held one is below the name.
 def open_road(net, one, other, held):
-    refuse_wrong_asks(net, [one, other] + list(held))
+    refuse_wrong_asks(net[0], [one, other] + list(held))
     before = spots_before(net, one, held)
     ends = spots_of(other, before)
     if not ends:
@@ -25,14 +25,9 @@ def open_road(net, one, other, held):
 
 
 def reach_of(net, one, held):
-    refuse_wrong_asks(net, [one] + list(held))
+    refuse_wrong_asks(net[0], [one] + list(held))
     names = net[0]
     return sorted(spots_before(net, one, held), key=lambda spot: (names.index(spot[0]), spot[1]))
-
-
-def refuse_wrong_asks(net, asked):
-    refuse_strangers(net[0], asked)
-    refuse_repeats(asked)
 
 
 # A dict: each spot of the reach, the nearest first, with the spot from which one came to it

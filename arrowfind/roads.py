@@ -1,11 +1,10 @@
 """Roads of a net: rows of tied names, and whether they are open beside held names."""
 
-from arrowfind.nets import are_tied, names_below, refuse_repeats, refuse_strangers
+from arrowfind.nets import are_tied, names_below, refuse_repeats, refuse_strangers, refuse_wrong_asks
 
 
 def all_roads(net, one, other):
-    refuse_strangers(net[0], [one, other])
-    refuse_repeats([one, other])
+    refuse_wrong_asks(net[0], [one, other])
     return roads_begun(neighbours_in(net), [one], other)
 
 

@@ -1,5 +1,6 @@
 """What the tests share: nets to try, and slow answers straight from the document's words."""
 
+import functools
 import itertools
 import sys
 import unittest
@@ -220,6 +221,139 @@ def slow_turnable(net):
 def slow_turned(net, arrow):
     arrows = [pair for pair in net[1] if pair != arrow] + [arrow[::-1]]
     return (net[0], by_places(net[0], arrows))
+
+
+@functools.cache
+def nets_alike(size):
+    """All nets of that many names, in groups of those that part the same names by the same lists."""
+    groups = {}
+    for net in every_net(size):
+        groups.setdefault(slow_partings(net), []).append(net)
+    return list(groups.values())
+
+
+def slow_nets_like(net):
+    """All nets with the ties and corners of this one: every order of the names turns the ties in
+    a way that leaves no ring, and every such way comes of some order."""
+    ways = {by_turns(net, turns) for turns in itertools.permutations(net[0])}
+    corners = slow_corners(net)
+    return [way for way in sorted(ways) if slow_corners(way) == corners]
+
+
+def slow_picture(nets):
+    """The picture of nets that are all that say the same."""
+    names, arrows = nets[0]
+    always = [arrow for arrow in arrows if all(arrow in net[1] for net in nets)]
+    return (names, by_places(names, always), slow_loose(nets))
+
+
+def slow_loose(nets):
+    return tuple(
+        pair
+        for pair in itertools.combinations(nets[0][0], 2)
+        if any(pair in net[1] for net in nets) and any(pair[::-1] in net[1] for net in nets)
+    )
+
+
+def slow_islands(names, ties):
+    islands = []
+    for name in names:
+        island = {name}
+        for _ in names:
+            island |= {end for tie in ties for end in tie if set(tie) & island}
+        row = [each for each in names if each in island]
+        if len(row) > 1 and row not in islands:
+            islands.append(row)
+    return islands
+
+
+def slow_source(net, island):
+    [source] = [name for name in island if not slow_elders(net, name) & set(island)]
+    return source
+
+
+def slow_goes_ahead(nets, islands, first, second):
+    """Whether the first goes ahead of the second, both of them among nets, a picture's nets."""
+    names = first[0]
+    for island in islands:
+        within = [[pair for pair in net[1] if set(pair) <= set(island)] for net in (first, second)]
+        if within[0] != within[1]:
+            source, other = slow_source(first, island), slow_source(second, island)
+            if source != other:
+                return names.index(source) < names.index(other)
+            some = [net for net in nets if slow_source(net, island) == source]
+            ties = [tie for tie in slow_loose(some) if set(tie) <= set(island)]
+            return slow_goes_ahead(nets, slow_islands(names, ties), first, second)
+    return False
+
+
+def by_numbers(nets):
+    """The nets of a picture in their order: each at the place that as many go ahead of it."""
+    islands = slow_islands(nets[0][0], slow_loose(nets))
+    rows = [None] * len(nets)
+    for net in nets:
+        ahead = [other for other in nets if slow_goes_ahead(nets, islands, other, net)]
+        rows[len(ahead)] = net
+    return rows
+
+
+# Nets of five to seven names, as places of tails and heads, for what few names can't show.
+SHAPES = {
+    "a row": (5, "01 12 23 34"),
+    "a star": (5, "20 21 23 24"),
+    "two islands within one": (5, "20 21 01 23 24 34"),
+    "islands within islands": (6, "01 02 12 13 23 24 34 35 45"),
+    "a triangle beside a triangle": (6, "03 35 05 12 24 14"),
+    "three islands": (6, "50 14 23"),
+    "islands with arrows between them": (6, "01 02 03 42 43 23 45"),
+    "an island above a corner": (5, "01 02 12 42"),
+    "a fan": (6, "30 31 32 34 35 01 12 24 45"),
+    "all tied above a corner": (6, "14 15 13 45 43 53 30 20"),
+    "five all tied": (5, "31 30 32 34 10 12 14 02 04 24"),
+    "arrows alone": (7, "01 21 13 34 52 62"),
+}
+
+
+def shaped_net(shape):
+    size, pairs = SHAPES[shape]
+    names = tuple(NAMES[:size])
+    return (names, by_places(names, [(names[int(tail)], names[int(head)]) for tail, head in pairs.split()]))
+
+
+def shaped_nets():
+    return [shaped_net(shape) for shape in SHAPES]
+
+
+def rows_that_fail(ties, corners, rows):
+    """Those of the rows that no rule bears, walked from the first on by the rows ahead alone."""
+    tied = set(ties) | {tie[::-1] for tie in ties}
+    bent = set(corners) | {corner[::-1] for corner in corners}
+    told, wrong = set(), []
+    for row in rows:
+        tail, head, rule, others = row
+        if (tail, head) not in tied or not rule_bears(tail, head, rule, others, tied, bent, told):
+            wrong.append(row)
+        told.add((tail, head))
+    return wrong
+
+
+def rule_bears(tail, head, rule, others, tied, bent, told):
+    if type(others) is not tuple or len(others) != (2 if rule == "both" else 1):
+        return False
+    if len({tail, head, *others}) != 2 + len(others):
+        return False
+    third, fourth = others[0], others[-1]
+    if rule == "corner":
+        return (tail, head, third) in bent
+    if rule == "on":
+        return (third, tail) in told and (third, head) not in tied and (third, tail, head) not in bent
+    if rule == "over":
+        return (tail, third) in told and (third, head) in told
+    if rule == "both":
+        ahead = (third, head) in told and (fourth, head) in told
+        near = (third, tail) in tied and (fourth, tail) in tied
+        return ahead and near and (third, fourth) not in tied and (third, tail, fourth) not in bent
+    return False
 
 
 def all_tied(names):

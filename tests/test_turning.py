@@ -8,8 +8,8 @@ from arrowfind.nets import net_made
 from arrowfind.sameness import say_same
 from arrowfind.turning import chain_to, net_turned, turnable_in
 from tests.helper import (
-    NAMES, Case, Dice, all_tied, by_turns, comes_round, every_net, slow_corners, slow_partings,
-    slow_turnable, slow_turned, some_nets, steps_of, thrown_nets, turned_about,
+    NAMES, Case, Dice, all_tied, by_turns, comes_round, every_net, nets_alike, slow_corners,
+    slow_partings, slow_turnable, slow_turned, some_nets, steps_of, thrown_nets, turned_about,
 )
 
 
@@ -131,10 +131,7 @@ class ChainTest(Case):
 
     def test_between_all_small_nets_that_say_the_same(self):
         for size in (1, 2, 3, 4):
-            groups = {}
-            for net in every_net(size):
-                groups.setdefault(slow_partings(net), []).append(net)
-            for nets in groups.values():
+            for nets in nets_alike(size):
                 for first, second in itertools.product(nets, repeat=2):
                     self.is_chain(first, second)
 

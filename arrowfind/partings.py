@@ -30,17 +30,22 @@ def reach_of(net, one, held):
     return sorted(spots_before(net, one, held), key=lambda spot: (names.index(spot[0]), spot[1]))
 
 
-# A dict: each spot of the reach, the nearest first, with the spot from which one came to it
-# (None for those to which one came from the name itself).
 def spots_before(net, one, held):
+    starts = heir_spots(net, one) + elder_spots(net, one)
+    return spots_walked(starts, lambda spot: spots_from(net, spot, held))
+
+
+# A dict: each spot to which one comes, the nearest first, with the spot from which one came to it
+# (None for those from which one starts). From a spot one comes to those that onward tells of it.
+def spots_walked(starts, onward):
     before = {}
     waiting = []
-    for spot in heir_spots(net, one) + elder_spots(net, one):
+    for spot in starts:
         before[spot] = None
         waiting.append(spot)
     while waiting:
         here = waiting.pop(0)
-        for spot in spots_from(net, here, held):
+        for spot in onward(here):
             if spot not in before:
                 before[spot] = here
                 waiting.append(spot)

@@ -6,9 +6,7 @@ from arrowfind.sameness import corners_of, pairs_of, ties_of
 
 
 def picture_of(net):
-    names = net[0]
-    arrows = [row[:2] for row in reasons_of(net)]
-    return (names, tuple(sorted_rows(names, arrows)), tuple(ties_left(ties_of(net), arrows)))
+    return picture_by(net[0], ties_of(net), corners_of(net))
 
 
 def net_within(picture):
@@ -28,6 +26,13 @@ def net_with(picture, tail, head):
 
 def reasons_of(net):
     return reasons_by(net[0], ties_of(net), corners_of(net))
+
+
+# Where both ways round are told, as no net does, neither stands, so that each tie is one of both.
+def picture_by(names, ties, corners):
+    told = [row[:2] for row in reasons_by(names, ties, corners)]
+    arrows = [(tail, head) for tail, head in told if (head, tail) not in told]
+    return (names, tuple(sorted_rows(names, arrows)), tuple(ties_left(ties, arrows)))
 
 
 # Every name of an island is its source in some net, and the islands go each as it likes; the
